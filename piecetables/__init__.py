@@ -1,0 +1,1 @@
+"""Piecetables: sums of a few of many yes-no questions, and one table behind them."""

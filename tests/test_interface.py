@@ -1,0 +1,95 @@
+"""The names, arguments and places that the document's interface lists."""
+
+import importlib
+import inspect
+import unittest
+
+from piecetables import errors
+from piecetables.errors import Disagree, Lost, PieceError, TooMany
+from piecetables.pieces import Piece
+from piecetables.reports import Report
+
+WITH_MESSAGE = (
+    "NoVariables NoCounts NoRow NoFactor NoMany NoPiece NoTotal NoReport NoNumber NoPattern NoScheme NoSteps NoRing "
+    "NoText NothingDone"
+).split()
+
+FUNCTIONS = {
+    "piecetables.reports": {"clash": ["report"]},
+    "piecetables.wholes": {
+        "whole": ["report"], "shows_whole": ["report", "thing"], "shows_bet": ["report", "thing"],
+    },
+}
+
+METHODS = {
+    Piece: ["__init__", "__call__", "__getitem__", "__add__", "__mul__", "__len__", "__contains__", "__eq__",
+            "__repr__"],
+    Report: ["__init__", "__call__", "__add__", "__sub__", "__or__", "__len__", "__eq__", "__repr__", "text", "read"],
+}
+
+
+class Interface(unittest.TestCase):
+
+    def test_functions_stand_in_their_files(self):
+        for module, functions in FUNCTIONS.items():
+            for name, arguments in functions.items():
+                function = getattr(importlib.import_module(module), name)
+                self.assertEqual(function.__module__, module)
+                self.assertEqual(list(inspect.signature(function).parameters), arguments)
+
+    def test_classes_stand_in_their_files(self):
+        self.assertEqual(Piece.__module__, "piecetables.pieces")
+        self.assertEqual(Report.__module__, "piecetables.reports")
+        self.assertEqual(list(inspect.signature(Piece).parameters), ["variables", "counts"])
+        self.assertEqual(list(inspect.signature(Report).parameters), ["many", "pieces"])
+
+    def test_methods_stand_in_their_classes(self):
+        for kind, names in METHODS.items():
+            for name in names:
+                self.assertIn(name, vars(kind))
+
+    def test_class_values(self):
+        piece = Piece((0,), (1, 1))
+        self.assertEqual((Piece.LIMIT, Report.LIMIT), (1000, 5))
+        self.assertEqual((piece.LIMIT, Report(1, piece).LIMIT), (1000, 5))
+
+    def test_arguments_by_name(self):
+        piece = Piece(variables=(0,), counts=(1, 1))
+        self.assertEqual(piece, Piece((0,), (1, 1)))
+        self.assertEqual(piece(variables=(0,)), piece)
+        self.assertEqual(Report(1, piece)(variables=(0,)), piece)
+        self.assertEqual(Report.read(text="variables 1\n0: 1 1\n"), Report(1, piece))
+
+
+class Errors(unittest.TestCase):
+
+    def test_bases(self):
+        self.assertEqual(PieceError.__bases__, (ValueError,))
+        for name in [*WITH_MESSAGE, "Disagree", "Lost", "TooMany"]:
+            error = getattr(errors, name)
+            self.assertEqual(error.__bases__, (PieceError,))
+            self.assertEqual(error.__module__, "piecetables.errors")
+
+    def test_made_with_a_message_or_none(self):
+        for name in ["PieceError", *WITH_MESSAGE]:
+            error = getattr(errors, name)
+            self.assertEqual(str(error()), "")
+            self.assertEqual(str(error("a message")), "a message")
+
+    def test_fields(self):
+        disagree = Disagree(1, 3)
+        self.assertEqual((disagree.first, disagree.second), (1, 3))
+        self.assertEqual(Lost(((1, -1),)).stakes, ((1, -1),))
+        many = TooMany(6, 5)
+        self.assertEqual((many.amount, many.limit), (6, 5))
+
+    def test_fields_by_name(self):
+        disagree = Disagree(second=3, first=1)
+        self.assertEqual((disagree.first, disagree.second), (1, 3))
+        self.assertEqual(Lost(stakes=()).stakes, ())
+        many = TooMany(limit=5, amount=6)
+        self.assertEqual((many.amount, many.limit), (6, 5))
+
+
+if __name__ == "__main__":
+    unittest.main()
