@@ -1,4 +1,9 @@
-"""Rows of values, known by their places in the order of the rows as tuples."""
+"""Rows of values, and their places in the order of the rows as tuples."""
+
+
+def all_rows(many):
+    """Return all rows of many variables, in order."""
+    return [tuple([(place >> (many - 1 - variable)) & 1 for variable in range(many)]) for place in range(1 << many)]
 
 
 def place_of(row):
@@ -9,14 +14,9 @@ def place_of(row):
     return place
 
 
-def part_place(place, many, variables):
-    """Return the place of the values that the row at a place, of many variables, has of some of them."""
-    return place_of([(place >> (many - 1 - variable)) & 1 for variable in variables])
-
-
 def part_places(many, variables):
-    """Return what part_place says of each row of many variables, in order."""
-    return [part_place(place, many, variables) for place in range(1 << many)]
+    """Return, for each row of many variables, the place of the values that it has of some of them."""
+    return [place_of([row[variable] for variable in variables]) for row in all_rows(many)]
 
 
 def part_sums(counts, many, variables):

@@ -11,7 +11,7 @@ class Tableau:
     At each time some of these numbers are held, one by each row, and the others are free: they
     are 0. A row has a factor for each free one, and its amount at the end: the held one is the
     amount less the free ones times their factors, all over the divisor. The goal is such a row
-    for the sum of all lacks.
+    for the sum of all numbers, each times its cost; at first for the sum of all lacks.
     """
 
     def __init__(self, equations, amounts):
@@ -20,10 +20,19 @@ class Tableau:
         self.free = list(range(self.width))
         self.held = [self.width + number for number in range(len(equations))]
         self.rows = [[*equation, amount] for equation, amount in zip(equations, amounts)]
-        self.goal = [sum([row[place] for row in self.rows]) for place in range(self.width + 1)]
+        self.aim([0] * self.width, 1)
+
+    def aim(self, costs, lack_cost):
+        """Let the goal be the sum of the columns, each times its cost, and of the lacks, which all cost the same."""
+        prices = costs + [lack_cost] * len(self.rows)
+        goal = [-prices[number] * self.divisor for number in self.free] + [0]
+        for held, row in zip(self.held, self.rows):
+            goal = [amount + prices[held] * entry for amount, entry in zip(goal, row)]
+        self.goal = goal
+        self.lack_cost = lack_cost
 
     def settle(self):
-        """Make the sum of all lacks as small as it can be."""
+        """Make the goal as small as it can be."""
         column = self.entering()
         while column is not None:
             self.exchange(self.leaving(column), column)
@@ -42,7 +51,7 @@ class Tableau:
 
     def leaving(self, column):
         """Return the place of the row that is the first one to become 0 if the column grows."""
-        # There is always one: the goal cannot fall below 0.
+        # There is always one, as long as the goal is one that cannot fall without end.
         best = None
         for place in range(len(self.rows)):
             if self.rows[place][column] > 0:
@@ -70,9 +79,33 @@ class Tableau:
         held = self.held[place]
         self.held[place] = self.free[column]
         self.free[column] = held
+        if divisor < 0:
+            self.turn()
 
-    def lack(self):
-        """Return the sum of all lacks, times the divisor."""
+    def turn(self):
+        """Change the sign of the divisor, and of all that it divides."""
+        self.divisor = -self.divisor
+        self.rows = [[-entry for entry in row] for row in self.rows]
+        self.goal = [-entry for entry in self.goal]
+
+    def free_lacks(self):
+        """Free each lack, all of which are 0, that is held by a row with a factor for some column."""
+        # Otherwise a lack could grow when another goal is aimed at; those that stay are 0 whatever is taken.
+        for place in range(len(self.rows)):
+            if self.held[place] >= self.width:
+                column = self.first_factor(place)
+                if column is not None:
+                    self.exchange(place, column)
+
+    def first_factor(self, place):
+        """Return the place of the first free column that has a factor in a row, or None."""
+        for column in range(self.width):
+            if self.rows[place][column] != 0 and self.free[column] < self.width:
+                return column
+        return None
+
+    def worth(self):
+        """Return the amount of the goal, times the divisor."""
         return self.goal[-1]
 
     def solution(self):
@@ -84,16 +117,16 @@ class Tableau:
         return numbers
 
     def weights(self):
-        """Return a weight for each equation.
+        """Return a weight for each equation, times the divisor.
 
-        If there is a lack when all is settled, then the factors of a column, each times the
-        weight of its equation, bring 0 or more, but the amounts less than 0.
+        If all is settled, then the factors of a column, each times the weight of its equation,
+        bring at most its cost, and the amounts bring the amount of the goal.
         """
-        weights = [-self.divisor] * len(self.rows)
+        weights = [self.divisor * self.lack_cost] * len(self.rows)
         for place in range(self.width):
             if self.free[place] >= self.width:
                 number = self.free[place] - self.width
-                weights[number] = weights[number] - self.goal[place]
+                weights[number] = weights[number] + self.goal[place]
         return weights
 
 

@@ -1,7 +1,8 @@
 """What several tests need: strange values, and slow but plain checks of answers."""
 
 import random
-from itertools import product
+from fractions import Fraction
+from itertools import combinations, combinations_with_replacement, permutations, product
 
 from piecetables import errors
 from piecetables.pieces import Piece
@@ -83,28 +84,66 @@ def brings(report, stakes, row):
 
 def is_bet(report, thing):
     """Tell, row by row, whether a value is a bet."""
+    if not is_stakes(report, thing) or pieces_bring(report, thing) >= 0:
+        return False
+    return all(brings(report, thing, row) >= 0 for row in rows(report.many))
+
+
+def fits(row, pattern):
+    """Tell whether a row fits a pattern."""
+    return all(wanted is None or wanted == value for value, wanted in zip(row, pattern))
+
+
+def share(report, table, pattern):
+    """Return the share of a pattern in a table."""
+    return Fraction(sum(count for row, count in zip(rows(report.many), table[1]) if fits(row, pattern)), table[0])
+
+
+def is_stakes(report, thing):
+    """Tell whether a value is stakes for the pieces of a report."""
     if type(thing) is not tuple or len(thing) != len(report.pieces):
         return False
-    for stake, piece in zip(thing, report.pieces):
-        if type(stake) is not tuple or len(stake) != len(piece.counts) or not all(is_int(one) for one in stake):
-            return False
-    gain = sum(
-        one * count for stake, piece in zip(thing, report.pieces) for one, count in zip(stake, piece.counts)
+    return all(
+        type(stake) is tuple and len(stake) == len(piece.counts) and all(is_int(one) for one in stake)
+        for stake, piece in zip(thing, report.pieces)
     )
-    return gain < 0 and all(brings(report, thing, row) >= 0 for row in rows(report.many))
+
+
+def pieces_bring(report, stakes):
+    """Return what the pieces bring."""
+    return sum(
+        one * count for stake, piece in zip(stakes, report.pieces) for one, count in zip(stake, piece.counts)
+    )
+
+
+def is_bound(report, pattern, thing):
+    """Tell, row by row, of what least and greatest may return for a pattern, which of them may return a value."""
+    if type(thing) is not tuple or len(thing) != 3:
+        return (False, False)
+    table, stakes, unit = thing
+    if not is_whole(report, table) or not is_stakes(report, stakes) or not is_int(unit) or unit < 1:
+        return (False, False)
+    exact = pieces_bring(report, stakes) == unit * share(report, table, pattern)
+    limits = [(brings(report, stakes, row), unit if fits(row, pattern) else 0) for row in rows(report.many)]
+    return (
+        exact and all(gain <= limit for gain, limit in limits), exact and all(gain >= limit for gain, limit in limits),
+    )
 
 
 def variants(value):
-    """Yield values that differ a little from a value of integers and tuples."""
+    """Yield values that differ a little from a value of integers, None, texts and tuples."""
     yield from (None, [value], (value,), {0: value}, str(value))
     if is_int(value):
         yield from (value + 1, value - 1, -value, 2 * value, bool(value), value == 1)
+        return
+    if value is None or type(value) is str:
+        yield from (0, 1, 2, True, False, "", "None", f"{value} ", f"{value}s")
         return
     yield list(value)
     yield dict(enumerate(value))
     yield value + value
     yield value[::-1]
-    for more in (0, 1, True, None, (), value[:1], value[-1]):
+    for more in (0, 1, True, None, (), value[:1], *value[-1:]):
         yield value + (more,)
         yield (more,) + value
     for at, inner in enumerate(value):
@@ -121,6 +160,78 @@ def groups(many):
         tuple(variable for variable, here in enumerate(row) if here) for row in rows(many) if 1 <= sum(row) <= 3
     ]
     return sorted(found, key=lambda group: (len(group), group))
+
+
+def schemes(many, most):
+    """Return all schemes of many variables with at most so many groups, in each order that the groups can have."""
+    return [(many, chosen) for size in range(1, most + 1) for chosen in product(groups(many), repeat=size)]
+
+
+def scheme_sets(many, most):
+    """Return all schemes of many variables with at most so many groups, in one order of the groups."""
+    return [
+        (many, chosen) for size in range(1, most + 1)
+        for chosen in combinations_with_replacement(groups(many), size)
+    ]
+
+
+def random_scheme(chance):
+    many = chance.randint(1, 5)
+    return (many, tuple(chance.choice(groups(many)) for _ in range(chance.randint(1, 5))))
+
+
+def is_step(chosen, left, one, other):
+    """Tell whether a group can be taken away, with another one as its partner, while these numbers are left."""
+    if one == other or one not in left or other not in left:
+        return False
+    elsewhere = set().union(*[chosen[number] for number in left if number != one])
+    return set(chosen[one]) & elsewhere <= set(chosen[other])
+
+
+def all_steps(chosen, left=None):
+    """Yield all steps of groups, in order."""
+    left = set(range(len(chosen))) if left is None else left
+    if len(left) == 1:
+        yield ()
+    for one, other in permutations(sorted(left), 2):
+        if is_step(chosen, left, one, other):
+            for more in all_steps(chosen, left - {one}):
+                yield ((one, other),) + more
+
+
+def is_together(chosen, variables):
+    return any(set(variables) <= set(group) for group in chosen)
+
+
+def is_shell(chosen, thing):
+    """Tell whether a value is a shell of groups."""
+    if type(thing) is not tuple or len(thing) not in (3, 4) or not all(is_int(variable) for variable in thing):
+        return False
+    if sorted(set(thing)) != list(thing) or is_together(chosen, thing):
+        return False
+    return all(is_together(chosen, set(thing) - {variable}) for variable in thing)
+
+
+def is_ring(chosen, thing):
+    """Tell whether a value is a ring of groups."""
+    if type(thing) is not tuple or len(thing) not in (4, 5) or not all(is_int(variable) for variable in thing):
+        return False
+    edges = {frozenset(pair) for pair in zip(thing, thing[1:] + thing[:1])}
+    return len(set(thing)) == len(thing) and all(
+        is_together(chosen, pair) == (frozenset(pair) in edges) for pair in combinations(thing, 2)
+    )
+
+
+def first_knot(many, chosen):
+    """Return what knot is to return, by a look at all sets in all arrangements."""
+    for size in (3, 4, 5):
+        for variables in combinations(range(many), size):
+            if is_shell(chosen, variables):
+                return ("shell", variables)
+            for ring in permutations(variables):
+                if is_ring(chosen, ring):
+                    return ("ring", ring)
+    return None
 
 
 def random_counts(chance, many):

@@ -19,6 +19,13 @@ FUNCTIONS = {
     "piecetables.wholes": {
         "whole": ["report"], "shows_whole": ["report", "thing"], "shows_bet": ["report", "thing"],
     },
+    "piecetables.bounds": {
+        "least": ["report", "pattern"], "greatest": ["report", "pattern"],
+        "shows_least": ["report", "pattern", "thing"], "shows_greatest": ["report", "pattern", "thing"],
+    },
+    "piecetables.schemes": {"is_scheme": ["thing"], "steps": ["scheme"], "shows_steps": ["scheme", "thing"]},
+    "piecetables.knots": {"knot": ["scheme"], "shows_knot": ["scheme", "thing"], "trap": ["scheme"]},
+    "piecetables.woven": {"woven": ["report"]},
 }
 
 METHODS = {

@@ -161,6 +161,18 @@ class Language(unittest.TestCase):
                 self.assertNotRegex(name, "^_(wall|pe_|dcw_|enum_|cm_|twin_re_|lay_|law_|stub_|sre)")
                 self.assertNotIn(name, WORDS, self.told(path, node))
 
+    def test_names_are_bound_once(self):
+        for path, tree in self.trees.items():
+            imported = [alias.name for node in tree.body if isinstance(node, ast.ImportFrom) for alias in node.names]
+            classes = [node.name for node in tree.body if isinstance(node, ast.ClassDef)]
+            bound = [*imported, *[name for node in tree.body for name in self.defined(node)]]
+            self.assertEqual(sorted(set(bound)), sorted(bound), path.name)
+            for function in ast.walk(tree):
+                if isinstance(function, ast.FunctionDef):
+                    for node in ast.walk(function):
+                        for name in names_bound(node):
+                            self.assertNotIn(name, [*imported, *classes], self.told(path, node))
+
     def test_generator_expressions_and_sets(self):
         for path, node in self.nodes:
             if isinstance(node, ast.Call) and isinstance(node.func, ast.Name):
