@@ -1,7 +1,8 @@
 """Pieces: how often each row of answers to one to three questions occurred."""
 
 from piecetables.checks import are_counts, is_between, is_group, is_integer, is_row
-from piecetables.errors import NoCounts, NoFactor, NoPiece, NoRow, NoVariables, TooMany
+from piecetables.errors import NoCounts, NoFactor, NoPiece, NoRow, NoVariables
+from piecetables.limits import check_limit
 from piecetables.rows import part_sums, place_of
 from piecetables.texts import spaced
 
@@ -59,14 +60,14 @@ class Piece:
         """Return the piece with the counts of both."""
         if not isinstance(other, Piece) or other.variables != self._variables:
             raise NoPiece("a piece of the same variables is needed")
-        check_total(self._total + other.total)
+        check_limit(self._total + other.total, Piece.LIMIT)
         return Piece(self._variables, tuple([one + more for one, more in zip(self._counts, other.counts)]))
 
     def __mul__(self, other):
         """Return the piece with all counts multiplied by a factor."""
         if not is_integer(other) or other < 1:
             raise NoFactor("an integer from 1 on is needed")
-        check_total(self._total * other)
+        check_limit(self._total * other, Piece.LIMIT)
         return Piece(self._variables, tuple([count * other for count in self._counts]))
 
     def __len__(self):
@@ -92,12 +93,6 @@ def has_all(piece, variables):
 def is_piece(thing, many):
     """Tell whether a value is a piece of variables below many."""
     return isinstance(thing, Piece) and is_between(thing.variables[-1], 0, many - 1)
-
-
-def check_total(total):
-    """Refuse a total that no piece can have because it is too great."""
-    if total > Piece.LIMIT:
-        raise TooMany(total, Piece.LIMIT)
 
 
 def piece_line(piece):

@@ -1,7 +1,8 @@
 """Reports: some pieces of the same total over the same variables."""
 
 from piecetables.checks import is_between, is_group
-from piecetables.errors import NoMany, NoNumber, NoPiece, NoReport, NoText, NoTotal, NoVariables, PieceError, TooMany
+from piecetables.errors import Disagree, NoMany, NoNumber, NoPiece, NoReport, NoText, NoTotal, NoVariables, PieceError
+from piecetables.limits import check_limit
 from piecetables.pieces import Piece, has_all, is_piece, piece_line
 from piecetables.texts import number_in, numbers_in
 
@@ -66,7 +67,7 @@ class Report:
         if not isinstance(other, Report):
             raise NoReport("a report is needed")
         many = self._many + other.many
-        check_limit(many)
+        check_limit(many, Report.LIMIT)
         pieces = self._pieces + tuple([moved(piece, self._many) for piece in other.pieces])
         return Report(many, *pieces)
 
@@ -101,17 +102,11 @@ class Report:
         return report
 
 
-def check_limit(amount):
-    """Refuse a number of variables or of pieces that no report can have because it is too great."""
-    if amount > Report.LIMIT:
-        raise TooMany(amount, Report.LIMIT)
-
-
 def check_pieces(many, pieces):
     """Refuse what cannot be the pieces of a report of many variables."""
     if not pieces or not all([is_piece(piece, many) for piece in pieces]):
         raise NoPiece("pieces of the variables of the report are needed")
-    check_limit(len(pieces))
+    check_limit(len(pieces), Report.LIMIT)
     if not all([piece.total == pieces[0].total for piece in pieces]):
         raise NoTotal("pieces of the same total are needed")
 
@@ -150,6 +145,14 @@ def clash(report):
             if variables is not None:
                 return (first, second, variables)
     return None
+
+
+def check_agreement(report):
+    """Refuse a report of which two pieces do not agree."""
+    found = clash(report)
+    if found is not None:
+        first, second, _ = found
+        raise Disagree(first, second)
 
 
 def quarrel(piece, other):

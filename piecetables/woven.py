@@ -3,18 +3,15 @@
 from math import lcm
 
 from piecetables.divisors import table_of
-from piecetables.errors import Disagree, NoSteps
-from piecetables.reports import clash
+from piecetables.errors import NoSteps
+from piecetables.reports import check_agreement
 from piecetables.rows import part_places
 from piecetables.schemes import steps
 
 
 def woven(report):
     """Return the whole that is woven of the pieces of a report."""
-    quarrel = clash(report)
-    if quarrel is not None:
-        first, second, _ = quarrel
-        raise Disagree(first, second)
+    check_agreement(report)
     taken = steps(report.scheme)
     if taken is None:
         raise NoSteps("a report whose scheme has steps is needed")

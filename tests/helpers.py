@@ -5,8 +5,10 @@ from fractions import Fraction
 from itertools import combinations, combinations_with_replacement, permutations, product
 
 from piecetables import errors
+from piecetables.ledgers import Agreeing, Ledger, Loose
 from piecetables.pieces import Piece
 from piecetables.reports import Report
+from piecetables.wholes import whole
 
 UNLIKE = (0, 1, 1, 0)
 ALIKE = (1, 0, 0, 1)
@@ -22,6 +24,8 @@ def strange_values():
     """Return new values of every kind that the document calls any value."""
     piece = Piece((0, 1), (1, 2, 3, 4))
     report = Report(2, piece)
+    ledger = Ledger(2, 10)
+    ledger.take(piece)
     return [
         None, True, False, 0, 1, -1, 2, 5, 6, 1000, 1001, 10 ** 12, -(10 ** 12),
         "", "0", "01", "a text", "variables 2\n", "\n",
@@ -30,7 +34,9 @@ def strange_values():
         {}, {0: 1}, {"variables": (0, 1), "counts": (1, 2, 3, 4)}, {(0, 1): (1, 2, 3, 4)},
         piece, report, (piece,), [report], {0: piece}, (1, piece), ((piece, report), None),
         errors.PieceError("a message"), errors.NoPiece(), errors.TooMany(6, 5), errors.Lost((1, 2)),
-        errors.Disagree(0, 1), nested(19, 1), nested(19, piece), nested(19, True),
+        errors.Disagree(0, 1), ledger, Ledger(3, 8), Agreeing(2, 10), Loose(1, 1), ledger.trying(), (ledger,),
+        [ledger, report], {0: ledger}, {"pieces": [piece, (ledger, None)]}, nested(19, ledger),
+        nested(19, 1), nested(19, piece), nested(19, True),
         tuple(range(8000 - 1)), list(range(8000 - 1)), (0,) * 7999, ((0, 1),) * 2000, {k: k for k in range(3999)},
     ]
 
@@ -232,6 +238,30 @@ def first_knot(many, chosen):
                 if is_ring(chosen, ring):
                     return ("ring", ring)
     return None
+
+
+def has_whole(report):
+    """Tell whether a report has a whole, after a look, row by row, at what shows it."""
+    word, shown = whole(report)
+    if not (is_whole(report, shown) if word == "whole" else word == "bet" and is_bet(report, shown)):
+        raise AssertionError(f"a wrong answer for {report.text()}")
+    return word == "whole"
+
+
+def random_piece(chance, group, total):
+    """Return a piece of a group, whatever other pieces say."""
+    counts = [0] * 2 ** len(group)
+    allowed = chance.choice([range(len(counts)), chance.sample(range(len(counts)), 2)])
+    for _ in range(total):
+        counts[chance.choice(allowed)] += 1
+    return Piece(group, tuple(counts))
+
+
+def tuples_of(size, total):
+    """Return all tuples of so many integers from 0 on with a sum, ascending."""
+    if size == 1:
+        return [(total,)]
+    return [(first, *more) for first in range(total + 1) for more in tuples_of(size - 1, total - first)]
 
 
 def random_counts(chance, many):

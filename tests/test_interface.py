@@ -6,6 +6,7 @@ import unittest
 
 from piecetables import errors
 from piecetables.errors import Disagree, Lost, PieceError, TooMany
+from piecetables.ledgers import Agreeing, Ledger, Loose
 from piecetables.pieces import Piece
 from piecetables.reports import Report
 
@@ -26,13 +27,27 @@ FUNCTIONS = {
     "piecetables.schemes": {"is_scheme": ["thing"], "steps": ["scheme"], "shows_steps": ["scheme", "thing"]},
     "piecetables.knots": {"knot": ["scheme"], "shows_knot": ["scheme", "thing"], "trap": ["scheme"]},
     "piecetables.woven": {"woven": ["report"]},
+    "piecetables.rims": {"rim": ["report"]},
+    "piecetables.fewest": {"drops": ["report"], "quarrels": ["report"]},
+    "piecetables.tables": {"tables": ["report"]},
 }
+
+OF_LEDGERS = ["__init__", "take", "__call__", "take_all", "undo", "trying", "__len__", "__contains__", "__eq__",
+              "__repr__"]
 
 METHODS = {
     Piece: ["__init__", "__call__", "__getitem__", "__add__", "__mul__", "__len__", "__contains__", "__eq__",
             "__repr__"],
     Report: ["__init__", "__call__", "__add__", "__sub__", "__or__", "__len__", "__eq__", "__repr__", "text", "read"],
+    Ledger: OF_LEDGERS, Agreeing: OF_LEDGERS, Loose: OF_LEDGERS,
 }
+
+PROPERTIES = {
+    Piece: ["variables", "counts", "total"], Report: ["many", "pieces", "total", "scheme"],
+    **{kind: ["many", "total", "pieces", "report", "untold"] for kind in (Ledger, Agreeing, Loose)},
+}
+
+METHOD_ARGUMENTS = {"take": ["piece"], "__call__": ["piece"], "take_all": ["pieces"], "undo": [], "trying": []}
 
 
 class Interface(unittest.TestCase):
@@ -49,11 +64,28 @@ class Interface(unittest.TestCase):
         self.assertEqual(Report.__module__, "piecetables.reports")
         self.assertEqual(list(inspect.signature(Piece).parameters), ["variables", "counts"])
         self.assertEqual(list(inspect.signature(Report).parameters), ["many", "pieces"])
+        for kind in (Ledger, Agreeing, Loose):
+            self.assertEqual(kind.__module__, "piecetables.ledgers")
+            self.assertEqual(list(inspect.signature(kind).parameters), ["many", "total"])
 
     def test_methods_stand_in_their_classes(self):
         for kind, names in METHODS.items():
             for name in names:
-                self.assertIn(name, vars(kind))
+                self.assertTrue(inspect.isfunction(vars(kind)[name]) or name == "read", name)
+
+    def test_properties_stand_in_their_classes(self):
+        for kind, names in PROPERTIES.items():
+            for name in names:
+                self.assertIsInstance(vars(kind)[name], property)
+
+    def test_arguments_of_the_methods_of_ledgers(self):
+        for kind in (Ledger, Agreeing, Loose):
+            for name, arguments in METHOD_ARGUMENTS.items():
+                self.assertEqual(list(inspect.signature(vars(kind)[name]).parameters), ["self", *arguments])
+
+    def test_generators(self):
+        for name, module in [("quarrels", "piecetables.fewest"), ("tables", "piecetables.tables")]:
+            self.assertTrue(inspect.isgeneratorfunction(getattr(importlib.import_module(module), name)))
 
     def test_class_values(self):
         piece = Piece((0,), (1, 1))
@@ -66,6 +98,9 @@ class Interface(unittest.TestCase):
         self.assertEqual(piece(variables=(0,)), piece)
         self.assertEqual(Report(1, piece)(variables=(0,)), piece)
         self.assertEqual(Report.read(text="variables 1\n0: 1 1\n"), Report(1, piece))
+        for kind in (Ledger, Agreeing, Loose):
+            ledger = kind(many=1, total=2)
+            self.assertEqual((ledger.take(piece=piece), ledger(piece=piece), ledger.pieces), (1, 2, (piece, piece)))
 
 
 class Errors(unittest.TestCase):

@@ -182,6 +182,64 @@ class Language(unittest.TestCase):
             if isinstance(node, (ast.For, ast.comprehension)):
                 self.assertNotIsInstance(node.iter, (ast.Set, ast.SetComp), self.told(path, node.iter))
 
+    def test_generators(self):
+        for path, tree in self.trees.items():
+            statements = [node for node in ast.walk(tree) if isinstance(node, ast.Expr)]
+            own = [node.value for node in statements if isinstance(node.value, (ast.Yield, ast.YieldFrom))]
+            for function in ast.walk(tree):
+                if not isinstance(function, ast.FunctionDef):
+                    continue
+                yielded = [node for node in ast.walk(function) if isinstance(node, (ast.Yield, ast.YieldFrom))]
+                if yielded:
+                    self.assertEqual(function.decorator_list, [], self.told(path, function))
+                    self.assertFalse(function.name.startswith("__"), self.told(path, function))
+                    for node in ast.walk(function):
+                        self.assertNotIsInstance(node, (ast.Try, ast.With), self.told(path, node))
+                        if isinstance(node, ast.Return):
+                            self.assertIsNone(node.value, self.told(path, node))
+                for node in yielded:
+                    self.assertIn(node, own, self.told(path, node))
+
+    def test_nothing_that_goes_over_what_is_iterated_over_and_has_a_length(self):
+        # Pieces have a length and a method that says that they are not iterated over.
+        for path, node in self.nodes:
+            if isinstance(node, ast.ImportFrom):
+                self.assertNotEqual(node.module, "itertools", self.told(path, node))
+
+    def test_what_double_underscore_methods_return(self):
+        for path, node in self.nodes:
+            if isinstance(node, ast.FunctionDef) and node.name in ("__len__", "__repr__", "__str__"):
+                self.assertIsInstance(node.body[-1], ast.Return, self.told(path, node))
+                for inner in ast.walk(node):
+                    self.assertNotIsInstance(inner, (ast.Assign, ast.AnnAssign), self.told(path, inner))
+                    if isinstance(inner, ast.Return):
+                        told = ast.unparse(inner.value)
+                        known = r"len\(.*\)|\d+" if node.name == "__len__" else r"f?['\"].*|(str|repr)\(.*\)"
+                        self.assertRegex(told, f"^({known})$", self.told(path, inner))
+
+    def test_ends_of_blocks(self):
+        allowed = (
+            ast.Assign, ast.If, ast.Name, ast.Attribute, ast.Compare, ast.Is, ast.IsNot, ast.Constant, ast.Load,
+            ast.Store,
+        )
+        for path, node in self.nodes:
+            if isinstance(node, ast.FunctionDef) and node.name == "__exit__":
+                for statement in node.body:
+                    for inner in ast.walk(statement):
+                        self.assertIsInstance(inner, allowed, self.told(path, inner))
+                        if isinstance(inner, ast.Name):
+                            self.assertNotIn(inner.id, ("value", "trace"), self.told(path, inner))
+
+    def test_names_of_classes(self):
+        for path, node in self.nodes:
+            if isinstance(node, ast.Attribute) and node.attr == "__name__":
+                self.assertEqual(getattr(node.value, "attr", None), "__class__", self.told(path, node))
+            if isinstance(node, ast.Attribute):
+                below = getattr(node.value, "attr", None)
+                self.assertEqual(below == "__class__", node.attr == "__name__", self.told(path, node))
+            if isinstance(node, ast.Name):
+                self.assertFalse(node.id.startswith("__"), self.told(path, node))
+
     def test_is(self):
         for path, node in self.nodes:
             if isinstance(node, ast.Compare) and isinstance(node.ops[0], (ast.Is, ast.IsNot)):
